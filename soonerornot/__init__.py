@@ -1,0 +1,1 @@
+"""Sayings about sooner and later, and what follows."""

@@ -1,0 +1,79 @@
+"""The first wrong part of what should be a saying, a book, a placing or an order."""
+
+from soonerornot.errors import BadTree
+from soonerornot.words import is_integer, is_number
+
+
+def check_saying(n, value):
+    """Raise BadTree(path) if a value is no saying about n moments."""
+    _check_saying_at((), n, value)
+
+
+def check_book(value):
+    """Raise BadTree(path) if a value is no book."""
+    if not is_pair(value):
+        raise BadTree(())
+    n, sayings = value
+    if not is_number(n):
+        raise BadTree((0,))
+    if not isinstance(sayings, tuple):
+        raise BadTree((1,))
+    for k, saying in enumerate(sayings):
+        _check_saying_at((1, k), n, saying)
+
+
+def check_placing(n, value):
+    """Raise BadTree(path) if a value is no placing of n moments."""
+    if not isinstance(value, tuple) or len(value) != n:
+        raise BadTree(())
+    for k, member in enumerate(value):
+        if not is_integer(member):
+            raise BadTree((k,))
+
+
+def check_order(n, value):
+    """Raise BadTree(path) if a value is no order of n moments."""
+    check_placing(n, value)
+    if sorted(set(value)) != list(range(len(set(value)))):
+        raise BadTree(())
+
+
+def is_pair(value):
+    """Tell whether a value, which may be anything, is a tuple of two members."""
+    return isinstance(value, tuple) and len(value) == 2
+
+
+def _is_moment(n, value):
+    return is_number(value) and value < n
+
+
+def _check_saying_at(path, n, value):
+    if not is_pair(value):
+        raise BadTree(path)
+    ties, head = value
+    if not isinstance(ties, tuple):
+        raise BadTree((*path, 0))
+    for k, tie in enumerate(ties):
+        _check_tie_at((*path, 0, k), n, tie)
+        if k > 0 and not ties[k - 1] < tie:
+            raise BadTree((*path, 0, k))
+    if head is not None:
+        _check_head_at((*path, 1), n, head)
+
+
+def _check_tie_at(path, n, tie):
+    if not is_pair(tie):
+        raise BadTree(path)
+    if not _is_moment(n, tie[0]):
+        raise BadTree((*path, 0))
+    if not _is_moment(n, tie[1]) or not tie[0] < tie[1]:
+        raise BadTree((*path, 1))
+
+
+def _check_head_at(path, n, head):
+    if not is_pair(head):
+        raise BadTree(path)
+    if not _is_moment(n, head[0]):
+        raise BadTree((*path, 0))
+    if not _is_moment(n, head[1]) or head[1] == head[0]:
+        raise BadTree((*path, 1))
