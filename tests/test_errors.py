@@ -62,6 +62,7 @@ class Attributes(unittest.TestCase):
                 kept = errors.BadTree(path).path
                 self.assertIs(type(kept), tuple)
                 self.assertEqual(kept, tuple(path))
+        self.assertEqual(str(errors.BadTree([1, 2])), str(errors.BadTree((1, 2))))
 
     def test_a_path_passed_as_a_list_stays_and_is_not_kept(self):
         path = [1, 2]
