@@ -43,8 +43,24 @@ def is_pair(value):
     return isinstance(value, tuple) and len(value) == 2
 
 
-def _is_moment(n, value):
+def is_triple(value):
+    """Tell whether a value, which may be anything, is a tuple of three members."""
+    return isinstance(value, tuple) and len(value) == 3
+
+
+def is_moment(n, value):
+    """Tell whether a value, which may be anything, is one of n moments."""
     return is_number(value) and value < n
+
+
+def is_fact(n, value):
+    """Tell whether a value, which may be anything, is a fact about n moments."""
+    return value is None or (is_pair(value) and is_moment(n, value[0]) and is_moment(n, value[1]))
+
+
+def is_placing(n, value):
+    """Tell whether a value, which may be anything, is a placing of n moments."""
+    return isinstance(value, tuple) and len(value) == n and all(is_integer(member) for member in value)
 
 
 def _check_saying_at(path, n, value):
@@ -64,16 +80,16 @@ def _check_saying_at(path, n, value):
 def _check_tie_at(path, n, tie):
     if not is_pair(tie):
         raise BadTree(path)
-    if not _is_moment(n, tie[0]):
+    if not is_moment(n, tie[0]):
         raise BadTree((*path, 0))
-    if not _is_moment(n, tie[1]) or not tie[0] < tie[1]:
+    if not is_moment(n, tie[1]) or not tie[0] < tie[1]:
         raise BadTree((*path, 1))
 
 
 def _check_head_at(path, n, head):
     if not is_pair(head):
         raise BadTree(path)
-    if not _is_moment(n, head[0]):
+    if not is_moment(n, head[0]):
         raise BadTree((*path, 0))
-    if not _is_moment(n, head[1]) or head[1] == head[0]:
+    if not is_moment(n, head[1]) or head[1] == head[0]:
         raise BadTree((*path, 1))

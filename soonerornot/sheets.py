@@ -1,6 +1,6 @@
 """Sheets: what is wrong in them, and what stands in them."""
 
-from soonerornot.books import is_pair
+from soonerornot.books import is_pair, is_triple
 from soonerornot.errors import BadTree, UnknownName
 from soonerornot.words import is_free_name
 
@@ -13,7 +13,7 @@ WAYS = (
 
 def check_sheet(value):
     """Raise BadTree(path) if a value is no sheet."""
-    if not _is_triple(value):
+    if not is_triple(value):
         raise BadTree(())
     names, stretches, lines = value
     owners = {}
@@ -67,12 +67,8 @@ def line_named(sheet, name):
     raise UnknownName(name)
 
 
-def _is_triple(value):
-    return isinstance(value, tuple) and len(value) == 3
-
-
 def _check_triple_at(path, value):
-    if not _is_triple(value):
+    if not is_triple(value):
         raise BadTree(path)
 
 
@@ -111,7 +107,7 @@ def _check_term_at(path, term, owners):
 def _check_head_at(path, head, owners):
     if head == ("never",):
         return
-    if not _is_triple(head) or head[0] not in (*SIGNS, *WAYS):
+    if not is_triple(head) or head[0] not in (*SIGNS, *WAYS):
         raise BadTree(path)
     for k in (1, 2):
         if head[0] in SIGNS:
