@@ -27,7 +27,19 @@ INTERFACE = {
     "placings": "keeps keeps_book broken first_broken order_of is_idle parting",
     "orders": "orders how_many number_of_order order_at left_of left_order spreads",
     "sides": "turned mirrored renamed turned_book renamed_book beside together",
+    "derivations": "closed laps derivation judge_derivation",
+    "leanings": "leaned uses grafted turned_derivation",
+    "settled": "classes told_placing placing_against given_by follows settle can_keep keep judge_settled what_can_be",
+    "rings": "broken_by against_all ring_of judge_ring",
+    "alike": "follows_all first_apart are_alike",
+    "ways": "way_words way_named way_order way_of turned turned_lot about_lot",
+    "together": "together together_lots threes three_placed",
+    "waylots": "is_said is_clear is_plain hull_of_lot refusing_saying sayings_of_lot",
+    "labels": "way_book label placing_with label_paper judge_label",
+    "narrowing": "first_table narrowed_by narrow_table narrowing_paper judge_narrowing",
 }
+# Calls in which a generator expression may stand.
+TAKING = ("list", "tuple", "dict", "sorted", "sum", "min", "max", "any", "all")
 
 
 def nodes(*kinds):
@@ -78,6 +90,51 @@ class Language(unittest.TestCase):
                 self.assertIsInstance(node.ctx, ast.Load, (name, node.lineno))
         for name, node in nodes(ast.Attribute):
             self.assertTrue(node.attr in METHODS or node.attr in own or node.attr in stored, (name, node.attr))
+
+    def test_no_variable_has_the_name_of_a_class_or_an_import_of_its_file(self):
+        for name, tree in TREES.items():
+            taken = {one.name for part in tree.body if isinstance(part, ast.ImportFrom) for one in part.names}
+            taken |= {part.name for part in tree.body if isinstance(part, ast.ClassDef)}
+            for node in ast.walk(tree):
+                if isinstance(node, ast.arg):
+                    self.assertNotIn(node.arg, taken, (name, node.lineno))
+                elif isinstance(node, ast.Name) and isinstance(node.ctx, ast.Store):
+                    self.assertNotIn(node.id, taken, (name, node.lineno))
+
+    def test_generators_and_sets_stand_where_they_may(self):
+        for name, tree in TREES.items():
+            right = set()
+            for node in ast.walk(tree):
+                if isinstance(node, ast.Call) and isinstance(node.func, ast.Name) and len(node.args) == 1:
+                    if node.func.id in TAKING:
+                        right.add((node.args[0].lineno, node.args[0].col_offset))
+                    if node.func.id in ("sorted", "len"):
+                        right.add((node.args[0].lineno, node.args[0].col_offset))
+                elif isinstance(node, ast.Assign) and isinstance(node.targets[0], ast.Name):
+                    right.add((node.value.lineno, node.value.col_offset))
+            for node in ast.walk(tree):
+                is_set = isinstance(node, ast.Call) and isinstance(node.func, ast.Name) and node.func.id == "set"
+                if isinstance(node, (ast.GeneratorExp, ast.SetComp)) or is_set:
+                    self.assertIn((node.lineno, node.col_offset), right, (name, node.lineno))
+
+    def test_module_level(self):
+        for name, tree in TREES.items():
+            for part in tree.body:
+                if isinstance(part, ast.Expr):
+                    self.assertIsInstance(part.value, ast.Constant, (name, part.lineno))
+                else:
+                    self.assertIsInstance(part, (ast.ImportFrom, ast.FunctionDef, ast.ClassDef, ast.Assign),
+                                          (name, part.lineno))
+                if isinstance(part, ast.Assign):
+                    ast.literal_eval(part.value)
+
+    def test_no_two_files_import_from_each_other(self):
+        above = {name: {node.module.partition(".")[2] for node in tree.body if isinstance(node, ast.ImportFrom)}
+                 for name, tree in TREES.items()}
+        while above:
+            free = [name for name in above if not above[name] & set(above)]
+            self.assertTrue(free, above)
+            above = {name: above[name] for name in above if name not in free}
 
     def test_the_interface_stands_in_its_files(self):
         for file, names in INTERFACE.items():
