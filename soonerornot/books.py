@@ -34,7 +34,7 @@ def check_placing(n, value):
 def check_order(n, value):
     """Raise BadTree(path) if a value is no order of n moments."""
     check_placing(n, value)
-    if sorted(set(value)) != list(range(len(set(value)))):
+    if not is_order(n, value):
         raise BadTree(())
 
 
@@ -58,9 +58,37 @@ def is_fact(n, value):
     return value is None or (is_pair(value) and is_moment(n, value[0]) and is_moment(n, value[1]))
 
 
+def is_unlike_pair(n, value):
+    """Tell whether a value, which may be anything, is a pair of two unlike ones of n moments."""
+    return is_fact(n, value) and value is not None and value[0] != value[1]
+
+
 def is_placing(n, value):
     """Tell whether a value, which may be anything, is a placing of n moments."""
     return isinstance(value, tuple) and len(value) == n and all(is_integer(member) for member in value)
+
+
+def is_order(n, value):
+    """Tell whether a value, which may be anything, is an order of n moments."""
+    return is_placing(n, value) and sorted(set(value)) == list(range(len(set(value))))
+
+
+def is_saying(n, value):
+    """Tell whether a value, which may be anything, is a saying about n moments."""
+    try:
+        check_saying(n, value)
+    except BadTree:
+        return False
+    return True
+
+
+def is_book(value):
+    """Tell whether a value, which may be anything, is a book."""
+    try:
+        check_book(value)
+    except BadTree:
+        return False
+    return True
 
 
 def _check_saying_at(path, n, value):

@@ -8,6 +8,11 @@ def unlike_pairs(n):
     return [(u, v) for u in range(n) for v in range(n) if u != v]
 
 
+def backward_pairs(order):
+    """Return the ascending list of the pairs (u, v) of moments such that v is earlier than u in an order."""
+    return [(u, v) for u, v in unlike_pairs(len(order)) if order[v] < order[u]]
+
+
 def ties_of(order):
     """Return the tuple of the ties of an order."""
     return tuple([(a, b) for a, b in unlike_pairs(len(order)) if a < b and order[a] == order[b]])

@@ -99,6 +99,13 @@ def row_holds(book, given, facts, reason):
     return fact == head and named == tuple(((a, b), (b, a)) for a, b in ties)
 
 
+def all_sayings(n):
+    """Return all sayings about n moments, by their ties, those with None ahead of those with pairs."""
+    pairs = list(itertools.combinations(range(n), 2))
+    ties = sorted(one for k in range(len(pairs) + 1) for one in itertools.combinations(pairs, k))
+    return [(one, head) for one in ties for head in [None, *itertools.permutations(range(n), 2)]]
+
+
 def some_saying(rng, n, most):
     """Return a saying about n moments with at most so many ties."""
     pairs = list(itertools.combinations(range(n), 2))
