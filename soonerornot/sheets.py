@@ -31,6 +31,21 @@ def check_sheet(value):
         _check_head_at((2, k, 2), line[2], owners)
 
 
+def is_sheet(value):
+    """Tell whether a value, which may be anything, is a sheet."""
+    try:
+        check_sheet(value)
+    except BadTree:
+        return False
+    return True
+
+
+def is_line(sheet, value):
+    """Tell whether a value, which may be anything, is a line that could be the only one of a sheet."""
+    names, stretches, _ = sheet
+    return is_sheet((names, stretches, (value,)))
+
+
 def moments_of(sheet):
     """Return the tuple of all terms of a sheet, in the order of its moments."""
     names, stretches, _ = sheet

@@ -18,6 +18,9 @@ HEAD = ("any", ("never",), (TERM, SIGN, TERM), ("NAME", WAY, "NAME"))
 LINE = ("any", ("say", "NAME", IF, HEAD, ";"))
 SHEET = ("any", ("sheet", "{", "moments", ("star", "NAME"), ";", "stretches", ("star", "NAME"), ";",
                  ("star", LINE), "}"))
+CONSOLE = ("any", (SHEET,), (LINE,), *((word, "NAME", ";") for word in ("moment", "stretch", "drop", "mark", "since")),
+           *((word, ";") for word in ("undo", "redo", "can", "placed", "moments", "stretches", "lines")),
+           ("follows", IF, HEAD, ";"), ("between", TERM, TERM, ";"), ("ways", "NAME", "NAME", ";"))
 
 
 def split(text):

@@ -37,6 +37,21 @@ INTERFACE = {
     "waylots": "is_said is_clear is_plain hull_of_lot refusing_saying sayings_of_lot",
     "labels": "way_book label placing_with label_paper judge_label",
     "narrowing": "first_table narrowed_by narrow_table narrowing_paper judge_narrowing",
+    "scenes": "label_table scene_of told_scene",
+    "ordersets": "refusing witnesses judge_witnesses hull passes book_of said",
+    "sharp": "tells sharp",
+    "forgetting": "lifted shown_by can_fill shown_orders filling judge_filling refusal judge_refusal",
+    "forgotten": "follows_kept sharp_book judge_forgotten",
+    "whys": "book_of_lot least_lots greatest_lots judge_least judge_greatest",
+    "whytrees": "full_why judge_why",
+    "thinning": "spare thin_lot judge_thin difference judge_difference likeness judge_likeness",
+    "desk": "Desk",
+    "console": "Console",
+}
+# The methods that it lists for its classes.
+METHODS_LISTED = {
+    "desk": ("Desk", "sheet act_word do undo redo acts can placed follows between ways work mark since marks twin"),
+    "console": ("Console", "answer"),
 }
 # Calls in which a generator expression may stand.
 TAKING = ("list", "tuple", "dict", "sorted", "sum", "min", "max", "any", "all")
@@ -141,6 +156,26 @@ class Language(unittest.TestCase):
             defined = [part.name for part in TREES[file].body if isinstance(part, (ast.FunctionDef, ast.ClassDef))]
             for one in names.split():
                 self.assertEqual(defined.count(one), 1, (file, one))
+
+    def test_the_methods_stand_in_their_classes(self):
+        for file, (name, methods) in METHODS_LISTED.items():
+            owner = next(part for part in TREES[file].body if isinstance(part, ast.ClassDef) and part.name == name)
+            defined = [part.name for part in owner.body if isinstance(part, ast.FunctionDef)]
+            for one in methods.split():
+                self.assertEqual(defined.count(one), 1, (name, one))
+
+    def test_no_name_is_a_method_and_an_attribute(self):
+        methods = {node.name for _, owner in nodes(ast.ClassDef) for node in owner.body
+                   if isinstance(node, ast.FunctionDef)}
+        stored = {node.attr for _, node in nodes(ast.Attribute) if isinstance(node.ctx, ast.Store)}
+        self.assertFalse(methods & stored)
+
+    def test_the_names_of_caught_errors(self):
+        for name, node in nodes(ast.FunctionDef):
+            caught = [one.name for one in ast.walk(node) if isinstance(one, ast.ExceptHandler) and one.name]
+            others = [one.id for one in ast.walk(node) if isinstance(one, ast.Name) and isinstance(one.ctx, ast.Store)]
+            self.assertEqual(len(set(caught)), len(caught), (name, node.name))
+            self.assertFalse(set(caught) & {*others, *(one.arg for one in node.args.args)}, (name, node.name))
 
 
 if __name__ == "__main__":

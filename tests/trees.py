@@ -1,5 +1,6 @@
 """What the tests do with values as trees: look for paths in them and exchange parts."""
 
+from soonerornot.desk import Desk
 from soonerornot.errors import BadTree
 
 
@@ -46,5 +47,5 @@ def nested(depth, sort):
 
 
 NO_TUPLES = (None, True, False, -1, 10 ** 39, "", "if", "A", "no name", [], ["a"], {}, {"a": 1},
-             nested(40, "list"), nested(40, "dict"))
+             nested(40, "list"), nested(40, "dict"), Desk())
 JUNK = (*NO_TUPLES, ((),), (0, 1, 2, 3), nested(40, "tuple"))
